@@ -1,4 +1,8 @@
-"""The form of the package's code: what can be seen of the rules L1 to L28 in its files."""
+"""The form of the package's code, as far as it is looked at here.
+
+Looked at, if not in every word: L1 to L8, L10, L12, L14 to L18, L20, L21, L25 to L27; L9 through L2 and L8.
+Not looked at, and left to the reader: L11, L13, L19, L22 to L24, L28.
+"""
 
 import ast
 import builtins
