@@ -1,35 +1,24 @@
-"""The house that a line's calls are about: its items, and what each call does there.
-
-A Stream is a number of which the first terms are known, and perhaps that there are no more.
-A Node is put together of two earlier items, told by their numbers x and y, by the factors a to h.
-A House has the items by their numbers, from 0 on, and a method for each call.
+"""The house that a line's calls are about: its items by their numbers, from 0 on, and a method for each call.
 
 Every call answers a list of whole numbers; a refusal is one number below 0, alone in its list.
 """
+
+from surelytold.nodes import Node, item_span
+from surelytold.spans import lies_within, shared_whole_part, told_end
+from surelytold.streams import Stream, can_end, sure_stream
 
 BAD_NUMBER = -1
 NO_ITEM = -2
 NO_END = -3
 NO_MORE = -4
 FULL = -5
+NOT_KNOWN = -7
 
 MOST_ITEMS = 8
 MOST_TERMS = 30
+MOST_DIGITS = 30
 FACTORS = 8
 BOUND = 1000
-
-
-class Stream:
-    def __init__(self):
-        self.terms = []
-        self.ended = False
-
-
-class Node:
-    def __init__(self, x, y, factors):
-        self.x = x
-        self.y = y
-        self.factors = factors
 
 
 def in_bounds(number):
@@ -42,15 +31,15 @@ def can_follow(terms, term):
     return len(terms) == 0 or term >= 1
 
 
-def can_end(terms):
-    if len(terms) == 0:
-        return False
-    # What would end in 1 behind other terms has its terms told otherwise: one fewer, the last one greater.
-    return len(terms) == 1 or terms[-1] != 1
-
-
 def are_factors(numbers):
     return len(numbers) == FACTORS and all([in_bounds(number) for number in numbers])
+
+
+def ten_times(count):
+    product = 1
+    for step in range(count):
+        product = product * 10
+    return product
 
 
 # Of several refusals the one told first is answered: so each call asks for them in the document's order,
@@ -85,7 +74,7 @@ class House:
     def stream(self):
         if self.is_full():
             return [FULL]
-        return self.put(Stream())
+        return self.put(Stream([], False))
 
     def feed(self, item, term):
         fed = self.find_stream(item)
@@ -119,3 +108,42 @@ class House:
         if self.is_full():
             return [FULL]
         return self.put(Node(x, y, tuple(numbers)))
+
+    def sure(self, item):
+        if not self.has_item(item):
+            return [NO_ITEM]
+        told = self.find_stream(item)
+        if told is None:
+            told = sure_stream(item_span(self.entries, item))
+        return [1 if told.ended else 0] + told.terms
+
+    def ends(self, item):
+        if not self.has_item(item):
+            return [NO_ITEM]
+        span = item_span(self.entries, item)
+        if span is None:
+            return [NOT_KNOWN]
+        return [0] + told_end(span.least) + told_end(span.greatest)
+
+    def digits(self, item, count):
+        if not self.has_item(item):
+            return [NO_ITEM]
+        if count > MOST_DIGITS:
+            return [BAD_NUMBER]
+        span = item_span(self.entries, item)
+        if span is None:
+            return [NOT_KNOWN]
+        part = shared_whole_part(span, ten_times(count))
+        if part is None:
+            return [NOT_KNOWN]
+        return [0, part]
+
+    def may(self, item, above, below):
+        if not self.has_item(item):
+            return [NO_ITEM]
+        if below == 0:
+            return [BAD_NUMBER]
+        span = item_span(self.entries, item)
+        if span is None or lies_within(span, above, below):
+            return [1]
+        return [0]

@@ -7,9 +7,12 @@ STREAM = 1
 FEED = 2
 CLOSE = 3
 NODE = 4
+SURE = 5
+RANGE = 6
+DIGITS = 7
 
-# By a call's number: how many numbers it takes up in the list, a row's own numbers not counted.
-LENGTHS = (1, 1, 3, 2, 4)
+# By a call's number, from begin to may: how many numbers it takes up in the list, a row's own numbers not counted.
+LENGTHS = (1, 1, 3, 2, 4, 2, 2, 3, 4)
 
 
 def call_length(calls, at):
@@ -30,7 +33,15 @@ def answer(house, call):
         return house.feed(call[1], call[2])
     if number == CLOSE:
         return house.close(call[1])
-    return house.node(call[1], call[2], call[4:])
+    if number == NODE:
+        return house.node(call[1], call[2], call[4:])
+    if number == SURE:
+        return house.sure(call[1])
+    if number == RANGE:
+        return house.ends(call[1])
+    if number == DIGITS:
+        return house.digits(call[1], call[2])
+    return house.may(call[1], call[2], call[3])
 
 
 def answers(calls):

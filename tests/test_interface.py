@@ -2,7 +2,6 @@
 
 import builtins
 import contextlib
-import inspect
 import io
 import random
 import sys
@@ -10,13 +9,23 @@ import unittest
 from unittest import mock
 
 from surelytold.terms import answers
-from lines import BEGIN, FAR, ONES, STREAM, asked, close, fed, feed, line, node, split, whole
+from lines import BEGIN, FAR, ONES, STREAM, asked, close, counted, digits, ends, fed, feed
+from lines import given_with_few_calls_within, line, may, node, split, sure, whole
 
 MIXED = line([
     STREAM, feed(0, 3), node(0, 0), node(0, 1, [1000, -1000, FAR, 0, 1, 2, 3, 4]), feed(0, 0), BEGIN,
     STREAM, STREAM, node(1, 0), feed(0, -4), feed(0, 1), close(0), feed(0, 2), close(0), node(2, 2, ONES), node(5, 0),
+    sure(0), node(0, 0, [0, 1, 1, 0, 0, 0, 0, 1]), sure(4), ends(4), digits(4, 1), may(4, -20, 3), sure(2), ends(2),
+    digits(3, 0), may(3, 5, 1), feed(1, 7), node(0, 1, [0, 1, 1, 0, 0, 0, 0, 1]), ends(5), sure(5), digits(5, 0),
+    may(5, 13, 3), sure(6), ends(FAR), digits(0, 31), may(0, 1, 0),
 ])
-MIXED_ANSWERS = whole([0, 1, 1, -1, -1, 0, 0, 1, 2, 1, 2, -3, 3, 0, 3, -2])
+MIXED_ANSWERS = whole([0, 1, 1, -1, -1, 0, 0, 1, 2, 1, 2, -3, 3, 0, 3, -2]) + counted([
+    [1, -4, 1, 2], [4], [1, -7, 3], [0, 1, -20, 3, 1, -20, 3], [0, -67], [1], [0], [-7],
+    [-7], [1], [1], [5], [0, 1, 11, 3, 0, 14, 3], [0], [-7],
+    [1], [-2], [-2], [-1], [-1],
+])
+# By a call's number: how many numbers it answers where it isn't refused; of sure there may be any, from 1 on.
+ANSWERED = (1, 1, 1, 1, 1, None, 7, 2, 1)
 
 
 class Unchangeable(list):
@@ -31,7 +40,7 @@ class Unchangeable(list):
 
 def random_call(source):
     item = source.choice([0, 0, 0, 1, 1, 2, 3, 7, 8, FAR])
-    kind = source.choice([1, 1, 2, 2, 2, 2, 3, 4, 4])
+    kind = source.choice([1, 1, 2, 2, 2, 2, 2, 3, 4, 4, 5, 6, 7, 8])
     if source.randrange(40) == 0:
         return BEGIN
     if kind == 1:
@@ -40,6 +49,14 @@ def random_call(source):
         return feed(item, source.choice([1, 1, 2, 3, 1000, 0, -1, -1000, 1001, -1001, 1000000, -1000000]))
     if kind == 3:
         return close(item)
+    if kind == 5:
+        return sure(item)
+    if kind == 6:
+        return ends(item)
+    if kind == 7:
+        return digits(item, source.choice([0, 0, 0, 1, 2, 30, 31, FAR]))
+    if kind == 8:
+        return may(item, source.choice([-1000000, -1, 0, 1, 3, 1000000]), source.choice([0, 1, 2, 1000, 1000000]))
     numbers = [source.randint(-1000, 1000) for place in range(source.choice([0, 7, 8, 8, 8, 8, 9, 10]))]
     if source.randrange(4) == 0:
         numbers = [source.choice([number, 1001, -1001, FAR, -FAR]) for number in numbers]
@@ -93,10 +110,19 @@ class GivenBack(unittest.TestCase):
         self.assertIs(type(given), list)
         self.assertEqual({type(number) for number in given}, {int})
 
-    def test_one_answer_of_one_number_for_each_call(self):
-        for calls in random_lines(200):
+    def test_one_answer_for_each_call_as_long_as_is_told(self):
+        for calls in random_lines(400):
             parts = split(asked(calls))
-            self.assertEqual([len(part) for part in parts], [1] * len(calls), calls)
+            self.assertEqual(len(parts), len(calls))
+            for call, part in zip(calls, parts):
+                if part[0] < 0:
+                    self.assertEqual(len(part), 1, calls)
+                elif call[0] != 5:
+                    self.assertEqual(len(part), ANSWERED[call[0]], calls)
+
+    def test_whole_numbers_whatever_the_calls_are(self):
+        for calls in random_lines(400):
+            self.assertEqual({type(number) for number in asked(calls)}, {int})
 
     def test_a_refusal_leaves_all_as_it_was(self):
         for calls in random_lines(200):
@@ -191,13 +217,7 @@ class NothingElse(unittest.TestCase):
         self.assertEqual(given, MIXED_ANSWERS)
 
     def test_long_lines_are_gone_through_by_loops(self):
-        long = line([node(0, FAR, [-FAR] * 10)] * 60)
-        limit = sys.getrecursionlimit()
-        sys.setrecursionlimit(len(inspect.stack(0)) + 40)
-        try:
-            given = answers(long)
-        finally:
-            sys.setrecursionlimit(limit)
+        given = given_with_few_calls_within([node(0, FAR, [-FAR] * 10)] * 60)
         self.assertEqual(given, [1, -2] * 60)
 
 

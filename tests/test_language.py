@@ -331,7 +331,8 @@ class TheRulesAreSeen(unittest.TestCase):
             self.assertIn(rule, [found for found, place in faults(source)], source)
 
     def test_code_within_the_rules(self):
-        self.assertEqual(faults('"""Words."""\n\nA = (1, -2)\n\n\ndef f(x):\n    return [A[k] for k in x if k > 0]\n'), [])
+        source = '"""Words."""\n\nA = (1, -2)\n\n\ndef f(x):\n    return [A[k] for k in x if k > 0]\n'
+        self.assertEqual(faults(source), [])
 
 
 if __name__ == "__main__":

@@ -2,7 +2,8 @@
 
 import unittest
 
-from lines import BEGIN, FAR, ONES, STREAM, asked, close, fed, feed, node, whole
+from lines import BEGIN, FAR, ONES, STREAM, SUM, LineCase, asked, close, digits, ends, fed, feed, may, node
+from lines import sure, whole
 
 COUNTS_TO_30 = list(range(1, 31))
 
@@ -155,7 +156,67 @@ class NodeRefused(unittest.TestCase):
         self.assertEqual(asked(calls), whole([0, 1, 2, 3, 4, 5, 6, 7, -5, 0, 0, 1]))
 
 
-class TheOneToldFirst(unittest.TestCase):
+class TellingRefused(LineCase):
+    """sure, range, digits, may."""
+
+    def telling(self, item):
+        return [sure(item), ends(item), digits(item, 0), digits(item, 30), may(item, 1, 1), may(item, 0, 7)]
+
+    def test_no_such_item(self):
+        for item in (1, 2, 7, 8, FAR):
+            self.check([[3, None]], [(call, [-2]) for call in self.telling(item)])
+
+    def test_no_item_at_all(self):
+        for item in (0, 1, 8, FAR):
+            self.assertEqual(asked(self.telling(item)), whole([-2] * 6), item)
+
+    def test_no_such_item_behind_8(self):
+        for item in (8, FAR):
+            self.check([[3]] * 8, [(call, [-2]) for call in self.telling(item)])
+
+    def test_no_item_after_begin(self):
+        self.check([[3]], [(BEGIN, [0])] + [(call, [-2]) for call in self.telling(0)])
+
+    def test_range_nothing_known(self):
+        self.check([[]], [(ends(0), [-7]), (node(0, 0), [1]), (ends(1), [-7])])
+
+    def test_digits_p_above_30(self):
+        refused = [(digits(0, p), [-1]) for p in (31, 32, 100, FAR)]
+        self.check([[3, None]], refused + [(digits(0, 30), [0, 3 * 10 ** 30])])
+
+    def test_digits_nothing_known_or_not_the_same(self):
+        self.check([[], [3]], [(digits(0, 0), [-7]), (digits(1, 1), [-7]), (digits(1, 0), [0, 3])])
+
+    def test_may_d_at_0(self):
+        self.check([[3]], [(may(0, 3, 0), [-1]), (may(0, 0, 0), [-1]), (may(0, -1000000, 0), [-1])])
+
+    def test_all_is_as_it_was(self):
+        refused = [(ends(0), [-7]), (digits(0, 0), [-7]), (digits(0, 31), [-1]), (may(0, 1, 0), [-1]), (sure(3), [-2]),
+                   (ends(3), [-2]), (digits(3, 0), [-2]), (may(3, 1, 1), [-2])]
+        told = [(sure(0), [0]), (sure(1), [0, 3, 7]), (ends(1), [0, 0, 25, 8, 1, 22, 7]), (sure(2), [0])]
+        self.check([[], [3, 7]], [(node(0, 1, SUM), [2])] + told + refused + told + [
+            (feed(1, 15), [3]), (feed(0, -1), [1]), (ends(2), [0, 1, 227, 106, 0, 355, 113]), (STREAM, [3])])
+
+
+class TheOneToldFirst(LineCase):
+    def test_digits_no_item_before_p_above_30(self):
+        self.assertEqual(asked([digits(0, 31), digits(FAR, FAR)]), whole([-2, -2]))
+        self.check([[3, None]], [(digits(item, p), [-2]) for item in (1, 8, FAR) for p in (31, FAR)])
+
+    def test_digits_p_above_30_before_nothing_known(self):
+        self.check([[]], [(digits(0, p), [-1]) for p in (31, FAR)])
+        self.check([[]], [(node(0, 0), [1])] + [(digits(1, p), [-1]) for p in (31, FAR)])
+
+    def test_digits_p_above_30_before_not_the_same(self):
+        self.check([[3]], [(digits(0, p), [-1]) for p in (31, FAR)] + [(digits(0, 30), [-7])])
+
+    def test_may_no_item_before_d_at_0(self):
+        self.assertEqual(asked([may(0, 1, 0), may(FAR, 0, 0)]), whole([-2, -2]))
+        self.check([[3, None]], [(may(item, n, 0), [-2]) for item in (1, 8, FAR) for n in (-1, 0, 3)])
+
+    def test_may_d_at_0_where_nothing_is_known(self):
+        self.check([[]], [(may(0, 1, 0), [-1]), (node(0, 0), [1]), (may(1, 1, 0), [-1])])
+
     def test_feed_no_item_before_a_term_out_of_bounds(self):
         for term in (1001, -1001, 1000000, -1000000):
             self.assertEqual(asked([STREAM, feed(1, term), feed(FAR, term)]), whole([0, -2, -2]), term)
